@@ -151,6 +151,11 @@ func hasNode(g Graph, node int) bool {
 	return node >= 0 && node < len(g.Nodes)
 }
 
+// hasEdge reports whether a number is that of an edge.
+func hasEdge(g Graph, edge int) bool {
+	return edge >= 0 && edge < len(g.Edges)
+}
+
 // extendGraph returns a graph with more nodes and edges, in new memory. The
 // graph itself must be valid too: one without nodes is not, and must not
 // become so by the node that is added.
