@@ -871,19 +871,9 @@ func expectWalkReading(t *testing.T, text string) bool {
 // Each short text is read as the document says, or not at all.
 func TestParseWalkOfAllShortTexts(t *testing.T) {
 	count := 0
-	texts := []string{""}
-	for range 7 {
-		var longer []string
-		for _, text := range texts {
-			for _, sign := range []string{"0", "1", "9", "-", " "} {
-				longer = append(longer, text+sign)
-			}
-		}
-		texts = longer
-		for _, text := range texts {
-			if expectWalkReading(t, text) {
-				count++
-			}
+	for _, text := range shortTexts([]string{"0", "1", "9", "-", " "}, 7) {
+		if expectWalkReading(t, text) {
+			count++
 		}
 	}
 	if count < 500 {
@@ -895,14 +885,9 @@ func TestParseWalkOfAllShortTexts(t *testing.T) {
 func TestParseWalkOfChangedTexts(t *testing.T) {
 	for _, text := range []string{"5", "10-3-1-14-0", "0-0-1-0-0-2-99", strings.Repeat("7-0-", 8) + "7", strings.Repeat("7-0-", 7) + "7"} {
 		count := 0
-		for i := range len(text) + 1 {
-			for b := range 256 {
-				put, rest := string([]byte{byte(b)}), text[min(i+1, len(text)):]
-				for _, changed := range []string{text[:i] + put + text[i:], text[:i] + put + rest, text[:i] + rest} {
-					if expectWalkReading(t, changed) {
-						count++
-					}
-				}
+		for _, changed := range changedTexts(text) {
+			if expectWalkReading(t, changed) {
+				count++
 			}
 		}
 		if count < 10 {
